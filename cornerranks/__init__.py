@@ -1,0 +1,1 @@
+"""Cornerranks: tables that are told by few numbers away from the middle."""

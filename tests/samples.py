@@ -1,0 +1,184 @@
+"""Tables for the tests, and the same things told in another way, with Python's own fractions."""
+
+from fractions import Fraction
+from itertools import combinations, permutations
+
+NIL, HALF, ONE, TWO, THREE, LESS = (0, 1), (1, 2), (1, 1), (2, 1), (3, 1), (-1, 1)
+CHAIN = ((TWO, LESS, NIL), (LESS, TWO, LESS), (NIL, LESS, TWO))
+FLAT = ((ONE, ONE), (ONE, ONE))
+LONG = ((ONE, TWO, NIL),)
+TALL = ((ONE,), (NIL,), (HALF,))
+
+
+class Stream:
+    """Numbers that look like chance and are the same in each run."""
+
+    def __init__(self, seed):
+        self.state = seed
+
+    def below(self, bound):
+        self.state = (self.state * 6364136223846793005 + 1442695040888963407) % 2 ** 64
+        return (self.state >> 24) % bound
+
+    def long(self, figures):
+        return int("".join(str(self.below(10)) for _ in range(figures)))
+
+
+def pair(number):
+    """A number of Python's own as the package writes it."""
+    number = Fraction(number)
+    return (number.numerator, number.denominator)
+
+
+def table_from(rows):
+    return tuple(tuple(pair(number) for number in row) for row in rows)
+
+
+def numbers_of(rows):
+    return [[Fraction(top, bottom) for top, bottom in row] for row in rows]
+
+
+def times(rows, others):
+    return [[sum((a * b for a, b in zip(row, column)), Fraction(0)) for column in zip(*others)] for row in rows]
+
+
+def unit(many):
+    return table_from([[int(i == j) for j in range(many)] for i in range(many)])
+
+
+def lots(many):
+    """All lots of so many."""
+    return [lot for count in range(many + 1) for lot in combinations(range(many), count)]
+
+
+def beside(lot, many):
+    return tuple(k for k in range(many) if k not in lot)
+
+
+def chosen(rows, lines, places):
+    return [[rows[i][j] for j in places] for i in lines]
+
+
+def rank_by_rows(rows):
+    """The rank of rows of Python's own fractions, by taking rows from others."""
+    rows = [list(row) for row in rows]
+    rank = 0
+    for place in range(len(rows[0]) if rows else 0):
+        at = next((i for i in range(rank, len(rows)) if rows[i][place]), None)
+        if at is None:
+            continue
+        rows[rank], rows[at] = rows[at], rows[rank]
+        for i in range(rank + 1, len(rows)):
+            by = rows[i][place] / rows[rank][place]
+            rows[i] = [a - by * b for a, b in zip(rows[i], rows[rank])]
+        rank += 1
+    return rank
+
+
+def sign(order):
+    """1 or - 1: of an order of 0, 1, .., by the number of pairs that stand the wrong way."""
+    return (-1) ** sum(a > b for a, b in combinations(order, 2))
+
+
+def determinant_by_orders(rows):
+    """The determinant, as the sum over all orders of the columns."""
+    total = Fraction(0)
+    for order in permutations(range(len(rows))):
+        term = Fraction(sign(order))
+        for i, j in enumerate(order):
+            term *= rows[i][j]
+            if not term:
+                break
+        total += term
+    return total
+
+
+def rank_by_parts(rows):
+    """The rank, as the greatest number of rows of a part that has a determinant other than 0."""
+    many, wide = len(rows), len(rows[0]) if rows else 0
+    for count in range(min(many, wide), 0, -1):
+        for lines in combinations(range(many), count):
+            for places in combinations(range(wide), count):
+                if determinant_by_orders(chosen(rows, lines, places)):
+                    return count
+    return 0
+
+
+def small(stream):
+    return stream.below(7) - 3
+
+
+def broken(stream):
+    return Fraction(stream.below(19) - 9, stream.below(9) + 1)
+
+
+def huge(stream):
+    return Fraction(stream.long(40) * (1 - 2 * stream.below(2)), stream.long(30) + 1)
+
+
+KINDS = (small, broken, huge)
+
+
+def rows_of_rank(stream, kind, many, wide, rank):
+    """Rows with just this rank: made as a product, and tried until they have it."""
+    while True:
+        if rank == 0:
+            return [[Fraction(0)] * wide for _ in range(many)]
+        left = [[Fraction(kind(stream)) for _ in range(rank)] for _ in range(many)]
+        right = [[Fraction(kind(stream)) for _ in range(wide)] for _ in range(rank)]
+        rows = times(left, right)
+        if rank_by_rows(rows) == rank:
+            return rows
+
+
+def sample_tables(seed=1, most=6):
+    """(table, rank): tables of all shapes and ranks, in turn of small, broken and huge numbers."""
+    stream = Stream(seed)
+    turn = 0
+    for many in range(1, most + 1):
+        for wide in range(1, most + 1):
+            for rank in range(min(many, wide) + 1):
+                kind = KINDS[turn % 3]
+                turn += 1
+                yield table_from(rows_of_rank(stream, kind, many, wide, rank)), rank
+
+
+def sample_squares(seed=2, most=6):
+    """(square table, rank) for all ranks, each with small, broken and huge numbers."""
+    stream = Stream(seed)
+    for many in range(1, most + 1):
+        for rank in range(many + 1):
+            for kind in KINDS:
+                yield table_from(rows_of_rank(stream, kind, many, many, rank)), rank
+
+
+def regular_squares(seed=3, most=6):
+    return [table for table, rank in sample_squares(seed, most) if rank == len(table)]
+
+
+def sparse_squares(seed=4, most=6, each=6):
+    """Regular tables with many noughts, whose parts have all kinds of ranks."""
+    stream = Stream(seed)
+    found = []
+    for many in range(1, most + 1):
+        left = each
+        while left:
+            rows = [[Fraction((stream.below(5) - 2) * stream.below(2)) for _ in range(many)] for _ in range(many)]
+            if rank_by_rows(rows) == many:
+                found.append(table_from(rows))
+                left -= 1
+    return found
+
+
+def is_plain(value):
+    """Whether a value is built of tuples and whole numbers alone, as all that is returned."""
+    if isinstance(value, tuple):
+        return all(is_plain(inner) for inner in value)
+    return type(value) is int
+
+
+def built_again(value):
+    """An equal value of new tuples."""
+    if isinstance(value, tuple):
+        return tuple([built_again(inner) for inner in value])
+    return value
