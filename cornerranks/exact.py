@@ -39,12 +39,25 @@ def negated(number):
     return (-number[0], number[1])
 
 
+def plus(number, other):
+    """Return the sum of two numbers."""
+    return fraction(number[0] * other[1] + other[0] * number[1], number[1] * other[1])
+
+
+def over(number, other):
+    """Return the number divided by another one, which is not 0."""
+    return fraction(number[0] * other[1], number[1] * other[0])
+
+
 def dot(row, other):
     """Return the sum of the products of the numbers at like places."""
-    top, bottom = 0, 1
+    shared = 1
+    for number, mate in zip(row, other):
+        shared = lcm(shared, number[1] * mate[1])
+    top = 0
     for (one, many), (two, much) in zip(row, other):
-        top, bottom = top * many * much + one * two * bottom, bottom * many * much
-    return fraction(top, bottom)
+        top = top + one * two * (shared // (many * much))
+    return fraction(top, shared)
 
 
 def unit_row(many, place):
@@ -55,6 +68,30 @@ def unit_row(many, place):
 def columns_at(rows, places):
     """Return the columns of the rows at these places, as rows."""
     return tuple(tuple(row[place] for row in rows) for place in places)
+
+
+def applied(rows, row):
+    """Return the sums of the products of each of the rows and one row."""
+    return tuple(dot(line, row) for line in rows)
+
+
+def times(rows, other, wide):
+    """Return the product of rows and others of so many columns, which no rows would not tell."""
+    columns = columns_at(other, list(range(wide)))
+    return tuple(applied(columns, row) for row in rows)
+
+
+def added(rows, other):
+    """Return the sums of the numbers at like places of two tables."""
+    sums = []
+    for row, mate in zip(rows, other):
+        sums.append(tuple([plus(one, two) for one, two in zip(row, mate)]))
+    return tuple(sums)
+
+
+def outer(column, row):
+    """Return the table of the products of each number of a column and each one of a row."""
+    return times([(number,) for number in column], (row,), len(row))
 
 
 def whole_rows(rows):

@@ -5,9 +5,14 @@ from cornerranks.exact import NIL, ONE, fraction, is_fraction, negated, reduced,
 from cornerranks.tables import is_table
 
 
+def is_square(value):
+    """Tell whether a value, whatever it is, is a square table."""
+    return is_table(value) and len(value) == len(value[0])
+
+
 def check_square(square):
     """Raise the error for what is no square table."""
-    if not is_table(square) or len(square) != len(square[0]):
+    if not is_square(square):
         raise InvalidSquare(square)
 
 

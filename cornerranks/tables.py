@@ -1,7 +1,7 @@
 """Tables of fractions, their products, their parts and ranks."""
 
 from cornerranks.errors import InvalidLot, InvalidTable, UnlikeSizes
-from cornerranks.exact import columns_at, dot, free_places, is_row, is_whole, reduced, row_rank
+from cornerranks.exact import columns_at, free_places, is_row, is_whole, reduced, row_rank, times
 
 MOST = 6
 
@@ -40,6 +40,11 @@ def check_lot(lot, many):
         raise InvalidLot(lot)
 
 
+def beside(lot, many):
+    """Return the lot of all indexes below `many` that a lot does not have."""
+    return tuple(index for index in range(many) if index not in lot)
+
+
 def check_part(table, rows, columns):
     """Raise the first error of a table and of the lots of a part of it."""
     check_table(table)
@@ -60,8 +65,7 @@ def turned_over(table):
 
 def multiplied(table, other):
     """Return the product of two tables; nothing is checked."""
-    columns = columns_at(other, list(range(len(other[0]))))
-    return tuple(tuple(dot(row, column) for column in columns) for row in table)
+    return times(table, other, len(other[0]))
 
 
 def product(table, other):

@@ -2,12 +2,19 @@
 
 from fractions import Fraction
 from itertools import combinations, permutations
+from itertools import product as all_of
+
+from cornerranks.corners import table_with
 
 NIL, HALF, ONE, TWO, THREE, LESS = (0, 1), (1, 2), (1, 1), (2, 1), (3, 1), (-1, 1)
 CHAIN = ((TWO, LESS, NIL), (LESS, TWO, LESS), (NIL, LESS, TWO))
 FLAT = ((ONE, ONE), (ONE, ONE))
 LONG = ((ONE, TWO, NIL),)
 TALL = ((ONE,), (NIL,), (HALF,))
+HILL = ((THREE, TWO, ONE), (TWO, (4, 1), TWO), (ONE, TWO, THREE))
+# Carriers of three places: one of the sizes 1 and 1, and one that carries nothing.
+DOWN = (((), ((),), (ONE,)), ((TWO,), ((TWO,),), (ONE,)), ((TWO,), (), ()))
+STILL = (((), (), ()),) * 3
 
 
 class Stream:
@@ -168,6 +175,88 @@ def sparse_squares(seed=4, most=6, each=6):
                 found.append(table_from(rows))
                 left -= 1
     return found
+
+
+def low_ranks_of(rows):
+    return tuple(rank_by_rows([row[:k] for row in rows[k:]]) for k in range(1, len(rows)))
+
+
+def high_ranks_of(rows):
+    return tuple(rank_by_rows([row[k:] for row in rows[:k]]) for k in range(1, len(rows)))
+
+
+def stepwise(count):
+    """All rows of so many low ranks that some table has."""
+    return [row for row in all_of(range(4), repeat=count)
+            if all(abs(a - b) <= 1 for a, b in zip((0, *row), (*row, 0)))]
+
+
+def upper_rows(stream, many):
+    """Rows with noughts below the middle and none on it."""
+    return [[Fraction(1 + stream.below(3)) if i == j else Fraction(small(stream) if j > i else 0) for j in range(many)]
+            for i in range(many)]
+
+
+def with_low_ranks(stream, lows):
+    """A square table of these low ranks: drawn on and above the middle, and filled below it."""
+    many = len(lows) + 1
+    upper = upper_rows(stream, many)
+    # Products with such rows on both sides leave the low ranks.
+    rows = times(times(upper, numbers_of(table_with(lows, lows))), upper_rows(stream, many))
+    return table_from([[small(stream) if j >= i else rows[i][j] for j in range(many)] for i in range(many)])
+
+
+def drawn_sizes(stream, many, most):
+    return tuple(stream.below(most + 1) for _ in range(many - 1))
+
+
+def drawn_carrier(stream, sizes, kind=small):
+    """A carrier of these sizes with drawn numbers."""
+    bounds = (0, *sizes, 0)
+    triples = []
+    for before, after in zip(bounds, bounds[1:]):
+        outward, *onward = table_from([[kind(stream) for _ in range(before)] for _ in range(after + 1)])
+        triples.append((outward, tuple(onward), tuple(pair(kind(stream)) for _ in range(after))))
+    return tuple(triples)
+
+
+def drawn_carrying(stream, many, most, kind=small):
+    down, up = (drawn_carrier(stream, drawn_sizes(stream, many, most), kind) for _ in range(2))
+    return down, tuple(pair(kind(stream)) for _ in range(many)), up
+
+
+def drawn_row(stream, many):
+    return tuple(pair(broken(stream)) for _ in range(many))
+
+
+def row_times(row, rows, wide):
+    """A row times rows of so many numbers, which may be none."""
+    return [sum((a * line[j] for a, line in zip(row, rows)), Fraction(0)) for j in range(wide)]
+
+
+def carried_number(carrier, i, j):
+    """The number P_i M_(i-1) .. M_(j+1) Q_j, worked out from the left."""
+    row = numbers_of([carrier[i][0]])[0]
+    for outward, onward, _ in carrier[i - 1:j:-1]:
+        row = row_times(row, numbers_of(onward), len(outward))
+    return sum((a * b for a, b in zip(row, numbers_of([carrier[j][2]])[0])), Fraction(0))
+
+
+def carried_rows(carrier):
+    many = len(carrier)
+    return [[carried_number(carrier, i, j) if i > j else Fraction(0) for j in range(many)] for i in range(many)]
+
+
+def carrying_rows(carrying):
+    """The numbers of the table that a carrying tells."""
+    down, middle, up = carrying
+    below, above, along = carried_rows(down), carried_rows(up), numbers_of([middle])[0]
+    many = len(middle)
+    return [[along[i] if i == j else below[i][j] if i > j else above[j][i] for j in range(many)] for i in range(many)]
+
+
+def column(row):
+    return tuple((number,) for number in row)
 
 
 def is_plain(value):

@@ -6,95 +6,9 @@ import unittest
 from importlib import import_module
 
 from cornerranks import errors
-from samples import CHAIN, FLAT, HALF, LESS, LONG, NIL, ONE, TWO, built_again, is_plain
-
-HUGE = 10 ** 399 + 7
-DEEP = (((((((((((((),),),),),),),),),),),),)
-WIDE = ((ONE, TWO, HALF), (LESS, NIL, ONE))
-SINGULAR = ((ONE, TWO, NIL), (TWO, (4, 1), NIL), (NIL, NIL, ONE))
-
-# What is no tuple at all, of many kinds.
-ANYTHING = (
-    None, True, False, 0, 1, 3, -1, HUGE, -HUGE, "", "abc", b"", b"abc", [], {}, set(), frozenset(), range(3), object(),
-    len, ValueError, [ONE], [0, 1], [0, 1, 2], {"a": 1}, {0: ONE, 1: ONE, 2: ONE}, (lambda: 0),
-)
-
-NO_TABLES = ANYTHING + (
-    (), ((),), (0,), (0, 1), DEEP, ONE, (ONE,), (ONE, ONE), (None,), ("a", "b"), ([ONE],), [(ONE,)], ((ONE,), [ONE]),
-    ((ONE,), (ONE, ONE)), ((ONE,),) * 7, ((ONE,) * 7,) * 7, ((ONE, True),), (((1, True),),), (((2, 2),),),
-    (((1, -1),),), (((1, 0),),), (((1, 1, 1),),), (((HUGE, HUGE),),),
-)
-NO_SQUARES = NO_TABLES + (LONG, WIDE, ((ONE,), (ONE,)), ((ONE,) * 6,) * 5)
-
-
-def no_lots(many):
-    """What is no lot of so many, none of them a tuple of one element from 0 to many - 1."""
-    return ANYTHING + (
-        (many,), (0, many), (-1,), (-1, 0), (HUGE,), (0, HUGE), (0, 0), (1, 0), (0, 1, 1), (True,), (False,),
-        (False, True), (0, True), (None,), ("0",), ("a",), (b"a",), ([],), ((),), ((0,),), (0, (1,)), DEEP,
-        tuple(range(many + 1)), tuple(range(many))[::-1], (0, None), (0, "1"),
-    )
-
-
-# (value, the index that is told), for a row of three numbers.
-NO_ROWS = tuple((value, None) for value in ANYTHING) + (
-    ((), None), ((ONE,), None), ((ONE, ONE), None), ((ONE,) * 4, None), (DEEP, None), ([ONE, ONE, ONE], None),
-    (((2, 2), None), None), ((None, ONE, ONE), 0), ((1, ONE, ONE), 0), ((ONE, True, ONE), 1), ((ONE, ONE, (1, 0)), 2),
-    ((ONE, (2, 4), (1, 0)), 1), ((ONE, [1, 1], ONE), 1), (((1, True), ONE, ONE), 0), ((ONE, ONE, (1, -1)), 2),
-    ((ONE, ONE, (1, 1, 1)), 2), ((None, None, None), 0), ((ONE, DEEP, ONE), 1), ((ONE, ONE, (HUGE, HUGE)), 2),
-    ((ONE, ONE, "11"), 2), ((0, 1, 2), 0), ((NIL, (0, 2), NIL), 1), ((NIL, NIL, ()), 2),
-)
-
-NO_LOWS = tuple((value, None) for value in ANYTHING) + (
-    ((0,) * 6, None), ((0,) * 7, None), ((None,) * 6, None), ([0, 1], None), ((-1,), 0), ((7,), 0), ((0, 7), 1),
-    ((0, 0, -1), 2), ((True,), 0), ((0, False), 1), ((0, 1, None, 7), 2), ((None,), 0), (("1",), 0), ((0, HUGE), 1),
-    ((0, 1, 2, 3, 7), 4), ((6, 6, 6, 6, -HUGE), 4), (((),), 0), ((0, (0,)), 1), (([],), 0), (DEEP, 0), ((0, 0, ONE), 2),
-)
-# Beside lows of three numbers.
-NO_HIGHS = tuple((value, None) for value in ANYTHING) + (
-    ((), None), ((0,), None), ((0, 0), None), ((0,) * 4, None), ((7, 7), None), ((None,) * 4, None), ([0, 0, 0], None),
-    ((-1, 0, 0), 0), ((0, 7, 0), 1), ((0, 0, HUGE), 2), ((True, 0, 0), 0), ((0, 0, False), 2), ((0, None, 7), 1),
-    (("0", 0, 0), 0), ((0, (), 0), 1), ((0, 0, [0]), 2), ((6, 6, 7), 2), ((DEEP, 0, 0), 0),
-)
-
-
-def given(name, values):
-    return [(name, "given", value, value) for value in values]
-
-
-def index(name, values):
-    return [(name, "index", value, told) for value, told in values]
-
-
-TABLE, OTHER = given("InvalidTable", NO_TABLES), given("InvalidTable", NO_TABLES)
-SQUARE, ROW = given("InvalidSquare", NO_SQUARES), index("InvalidRow", NO_ROWS)
-LOWS, HIGHS = index("InvalidRanks", NO_LOWS), index("InvalidRanks", NO_HIGHS)
-
-
-def lot_of(many):
-    return given("InvalidLot", no_lots(many))
-
-
-# module, function, ((parameter, a right value, the wrong ones), ..)
-FUNCTIONS = (
-    ("tables", "turned_over", (("table", WIDE, TABLE),)),
-    ("tables", "product", (("table", LONG, TABLE), ("other", CHAIN, OTHER))),
-    ("tables", "part", (("table", WIDE, TABLE), ("rows", (1,), lot_of(2)), ("columns", (0, 2), lot_of(3)))),
-    ("tables", "rank_of", (("table", WIDE, TABLE),)),
-    ("tables", "part_rank", (("table", WIDE, TABLE), ("rows", (0, 1), lot_of(2)), ("columns", (2,), lot_of(3)))),
-    ("tables", "nullity", (("table", WIDE, TABLE), ("rows", (), lot_of(2)), ("columns", (0, 1, 2), lot_of(3)))),
-    ("tables", "rank_pair", (("table", WIDE, TABLE),)),
-    ("tables", "regular_part", (("table", WIDE, TABLE), ("rows", (0, 1), lot_of(2)), ("columns", (), lot_of(3)))),
-    ("inverses", "is_regular", (("square", CHAIN, SQUARE),)),
-    ("inverses", "determinant", (("square", CHAIN, SQUARE),)),
-    ("inverses", "inverse", (("square", CHAIN, SQUARE),)),
-    ("inverses", "solved", (("square", CHAIN, SQUARE), ("row", (ONE, NIL, HALF), ROW))),
-    ("inverses", "null_row", (("square", SINGULAR, SQUARE),)),
-    ("corners", "low_ranks", (("square", CHAIN, SQUARE),)),
-    ("corners", "high_ranks", (("square", CHAIN, SQUARE),)),
-    ("corners", "are_ranks", (("lows", (0, 1, 0), LOWS), ("highs", (1, 2, 1), HIGHS))),
-    ("corners", "table_with", (("lows", (0, 1, 0), LOWS), ("highs", (1, 2, 1), HIGHS))),
-)
+from samples import CHAIN, DOWN, FLAT, LESS, LONG, NIL, ONE, STILL, TWO, built_again, is_plain
+from wrongs import (
+    ANYTHING, ASKING, BOTH, DEEP, FUNCTIONS, HUGE, NO_ROWS, NO_TABLES, SINGULAR, WIDE, no_lots, placed, wrong_carriers)
 
 
 def function_of(module, name):
@@ -127,7 +41,7 @@ class Case(unittest.TestCase):
 class Interface(Case):
     def test_functions_stand_in_their_files(self):
         listed = [(module, name, [at for at, _, _ in parameters]) for module, name, parameters in FUNCTIONS]
-        for module, name, parameters in listed + [("tables", "is_table", ["value"])]:
+        for module, name, parameters in listed + [(module, name, ["value"]) for module, name in ASKING]:
             with self.subTest(name):
                 function = function_of(module, name)
                 self.assertTrue(inspect.isfunction(function))
@@ -268,11 +182,94 @@ class Last(Case):
         for row, told in NO_ROWS:
             self.told(lambda: solved(SINGULAR, row), ("InvalidRow", "index", row, told))
 
+    def test_not_regular_behind_a_wrong_lot_or_row(self):
+        noughts = ((NIL,) * 3,) * 3
+        carrying = (STILL, (ONE, NIL, ONE), DOWN)
+        for name, function, values in (
+                ("NotRegular", function_of("left", "left_of"), (noughts, (0,), (1,))),
+                ("NotRegular", function_of("carryings", "inverse_of"), (carrying,)),
+                ("NotRegular", function_of("carryings", "solved_by"), (carrying, (ONE, NIL, NIL))),
+                ("NotRegular", function_of("shapes", "inverse_width_below"), (SINGULAR,)),
+                ("NotRegular", function_of("shapes", "inverse_width_above"), (SINGULAR,)),
+                ("NotRegular", function_of("shapes", "half_pair"), (SINGULAR,)),
+                ("NotRegular", function_of("shapes", "has_noughts"), (SINGULAR, (), (0, 1)))):
+            self.raised(name, function, *values)
+        for value in no_lots(3):
+            wrong = ("InvalidLot", "given", value, value)
+            self.told(lambda: function_of("shapes", "has_noughts")(SINGULAR, value, (7,)), wrong)
+            self.told(lambda: function_of("shapes", "has_noughts")(SINGULAR, (0,), value), wrong)
+            self.told(lambda: function_of("left", "left_of")(noughts, value, (0, 1, 2)), wrong)
+            self.told(lambda: function_of("left", "left_of")(noughts, (0,), value), wrong)
+        for row, told in NO_ROWS:
+            self.told(lambda: function_of("carryings", "solved_by")(carrying, row), ("InvalidRow", "index", row, told))
+
+    def test_not_least_behind_unlike_sizes(self):
+        between = function_of("carriers", "bases_between")
+        wide = function_of("carriers", "carrier_with")(CHAIN, (2, 2))
+        self.raised("NotLeast", between, wide, DOWN)
+        self.raised("NotLeast", between, DOWN, wide)
+        self.raised("UnlikeSizes", between, wide, STILL[:2])
+        self.raised("UnlikeSizes", between, STILL[:2], wide)
+        self.raised("InvalidCarrier", between, wide, wide[:2])
+        for name in ("sum_of", "product_of"):
+            function = function_of("carryings", name)
+            self.raised("UnlikeSizes", function, BOTH, (STILL[:2], (ONE, ONE), STILL[:2]))
+            self.raised("UnlikeSizes", function, (STILL[:1], (ONE,), STILL[:1]), BOTH)
+            self.raised("InvalidCarrying", function, BOTH, (STILL[:2], (ONE, ONE, ONE), STILL[:2]))
+
     def test_singular_tables_are_no_error_elsewhere(self):
         self.assertEqual(function_of("inverses", "determinant")(SINGULAR), NIL)
         self.assertIs(function_of("inverses", "is_regular")(SINGULAR), False)
         self.assertEqual(function_of("corners", "low_ranks")(SINGULAR), (1, 0))
         self.assertEqual(function_of("corners", "high_ranks")(SINGULAR), (1, 0))
+
+
+class Carriers(Case):
+    def test_the_first_triple_that_is_wrong(self):
+        sizes_of = function_of("carriers", "sizes_of")
+        for carrier in (STILL[:1] * 6, DOWN + STILL, (STILL + DOWN)[:6]):
+            self.assertEqual(len(sizes_of(carrier)), 5)
+            for value, told in wrong_carriers(carrier):
+                self.told(lambda: sizes_of(value), ("InvalidCarrier", "index", value, told))
+                # What stands behind the first wrong one is not looked at.
+                for later in range(told + 1, 6):
+                    worse = placed(value, later, None)
+                    self.told(lambda: sizes_of(worse), ("InvalidCarrier", "index", worse, told))
+
+    def test_no_cut_of_one_place(self):
+        for name in ("coming", "going"):
+            function = function_of("carriers", name)
+            for cut in ANYTHING + (2,):
+                self.told(lambda: function(STILL[:1], cut), ("InvalidNumber", "given", cut, cut))
+                self.told(lambda: function((), cut), ("InvalidCarrier", "index", cut, None))
+
+    def test_each_size_counts(self):
+        carrier_with = function_of("carriers", "carrier_with")
+        for many in range(2, 7):
+            table = tuple(tuple(ONE if i == j else NIL for j in range(many)) for i in range(many))
+            self.assertEqual(len(carrier_with(table, (6,) * (many - 1))), many)
+            for place in range(many - 1):
+                for wrong in (-1, 7, True, None, HUGE):
+                    sizes = (0,) * place + (wrong,) * (many - 1 - place)
+                    self.told(lambda: carrier_with(table, sizes), ("InvalidSizes", "index", sizes, place))
+        self.told(lambda: carrier_with(((ONE,),), (0,)), ("InvalidSizes", "index", None, None))
+        self.told(lambda: carrier_with(((ONE,),), None), ("InvalidSizes", "index", None, None))
+
+    def test_bases_of_the_size_0(self):
+        rebased = function_of("carriers", "rebased")
+        self.assertEqual(rebased(STILL, ((), ())), STILL)
+        self.assertEqual(rebased(STILL[:1], ()), STILL[:1])
+        for value in NO_TABLES + (((ONE,),), CHAIN):
+            if not (isinstance(value, tuple) and not value):
+                self.told(lambda: rebased(STILL, ((), value)), ("InvalidBases", "index", None, 1))
+                self.told(lambda: rebased(STILL, (value, value)), ("InvalidBases", "index", None, 0))
+
+    def test_places(self):
+        part_of = function_of("carryings", "part_of")
+        one = (STILL[:1], (TWO,), STILL[:1])
+        self.assertEqual(part_of(one, (0,)), one)
+        for places in ((), (1,), (0, 1), (-1,), None):
+            self.told(lambda: part_of(one, places), ("InvalidLot", "given", None, places))
 
 
 class Returned(Case):
@@ -286,6 +283,16 @@ class Returned(Case):
         top, bottom = determinant(great)
         self.assertEqual(determinant(told), (bottom, top) if top > 0 else (-bottom, -top))
         self.assertEqual(function_of("corners", "low_ranks")(told), function_of("corners", "low_ranks")(great))
+
+    def test_what_carriers_return_may_be_passed(self):
+        great = (((HUGE, 2), (1, HUGE), ONE), (LESS, (HUGE, 3), TWO), ((-HUGE, 5), (2, HUGE), (5, HUGE)))
+        told = function_of("carryings", "inverse_of")(function_of("carryings", "least_carrying")(great))
+        self.assertGreater(max(len(bin(n)) for pair in told[0][2][0] for n in pair), 4 * 400)
+        self.assertEqual(function_of("carryings", "table_of")(function_of("carryings", "inverse_of")(told)), great)
+        self.assertIs(function_of("carryings", "is_least")(function_of("carryings", "turned_round")(told)), True)
+        self.assertEqual(function_of("carriers", "bases_between")(told[0], told[0]), (((ONE,),), ((ONE,),)))
+        left = function_of("left", "left_of")(function_of("inverses", "inverse")(great), (0,), (0,))
+        self.assertEqual(function_of("inverses", "inverse")(left), tuple(row[1:] for row in great[1:]))
 
     def test_an_error_of_long_numbers(self):
         wrong = ((((HUGE ** 20, HUGE ** 20),),),)
