@@ -1,24 +1,22 @@
 """Carriers: the numbers below the middle of a table, told by what goes on from place to place."""
 
 from cornerranks.corners import low_ranks
-from cornerranks.errors import InvalidBases, InvalidCarrier, InvalidNumber, InvalidSizes, NotLeast, UnlikeSizes
-from cornerranks.exact import NIL, applied, columns_at, dot, is_row, is_whole, reduced, row_rank, times
+from cornerranks.errors import InvalidBases, InvalidCarrier, InvalidSizes, NotLeast, UnlikeSizes
+from cornerranks.exact import NIL, applied, columns_at, dot, is_between, is_row, is_tuple_of, reduced, row_rank, times
 from cornerranks.inverses import check_row, check_square, inverse, is_square
-from cornerranks.tables import MOST
+from cornerranks.tables import MOST, check_number
 
 
 def _is_triple(value, many):
     """Tell whether a value is a triple of a carrier to which so many numbers go down."""
-    if not isinstance(value, tuple) or len(value) != 3:
+    if not is_tuple_of(value, 3):
         return False
     outward, onward, inward = value
     if not is_row(outward, many):
         return False
     if not isinstance(inward, tuple) or len(inward) > MOST or not is_row(inward, len(inward)):
         return False
-    if not isinstance(onward, tuple) or len(onward) != len(inward):
-        return False
-    return all(is_row(row, many) for row in onward)
+    return is_tuple_of(onward, len(inward)) and all(is_row(row, many) for row in onward)
 
 
 def _has_places(value):
@@ -52,31 +50,30 @@ def check_carrier(carrier):
         raise InvalidCarrier(index)
 
 
-def _check_cut(cut, many):
-    """Raise the error for what is no cut of so many places."""
-    if not is_whole(cut) or not 1 <= cut < many:
-        raise InvalidNumber(cut)
-
-
 def _check_sizes(sizes, many):
     """Raise the error for what are no sizes at so many cuts."""
-    if not isinstance(sizes, tuple) or len(sizes) != many:
+    if not is_tuple_of(sizes, many):
         raise InvalidSizes(None)
     for index, size in enumerate(sizes):
-        if not is_whole(size) or not 0 <= size <= MOST:
+        if not is_between(size, 0, MOST):
             raise InvalidSizes(index)
 
 
 def _is_base(value, size):
     """Tell whether a value is a base of this size."""
     if size == 0:
-        return isinstance(value, tuple) and len(value) == 0
+        return is_tuple_of(value, 0)
     return is_square(value) and len(value) == size and row_rank(value) == size
+
+
+def are_bases(value, sizes):
+    """Tell whether a value is a row of bases of these sizes."""
+    return is_tuple_of(value, len(sizes)) and all([_is_base(base, size) for base, size in zip(value, sizes)])
 
 
 def _check_bases(bases, sizes):
     """Raise the error for what are no bases of these sizes."""
-    if not isinstance(bases, tuple) or len(bases) != len(sizes):
+    if not is_tuple_of(bases, len(sizes)):
         raise InvalidBases(None)
     for index, base in enumerate(bases):
         if not _is_base(base, sizes[index]):
@@ -125,7 +122,7 @@ def carry(carrier, row):
 def coming(carrier, cut):
     """Return the coming table at a cut."""
     check_carrier(carrier)
-    _check_cut(cut, len(carrier))
+    check_number(cut, 1, len(carrier) - 1)
     size = len(carrier[cut][0])
     return columns_at(_coming_columns(carrier)[cut], list(range(size)))
 
@@ -133,7 +130,7 @@ def coming(carrier, cut):
 def going(carrier, cut):
     """Return the going table at a cut."""
     check_carrier(carrier)
-    _check_cut(cut, len(carrier))
+    check_number(cut, 1, len(carrier) - 1)
     rows = ()
     for outward, onward, _ in reversed(carrier[cut:]):
         rows = (outward, *times(rows, onward, len(outward)))

@@ -2,14 +2,14 @@
 
 from cornerranks.carriers import carried, is_carrier, is_least_carrier, least_carrier
 from cornerranks.errors import InvalidCarrying, InvalidLot, UnlikeSizes
-from cornerranks.exact import added, columns_at, is_row
+from cornerranks.exact import added, columns_at, is_row, is_tuple_of
 from cornerranks.inverses import check_square, inverse, solved
 from cornerranks.tables import check_lot, multiplied, numbers_at, turned_over
 
 
 def is_carrying(value):
     """Tell whether a value, whatever it is, is a carrying."""
-    if not isinstance(value, tuple) or len(value) != 3:
+    if not is_tuple_of(value, 3):
         return False
     down, middle, up = value
     return is_carrier(down) and is_row(middle, len(down)) and is_carrier(up) and len(up) == len(down)

@@ -1,7 +1,7 @@
 """Corner ranks: those of the low and of the high parts at the cuts of a square table."""
 
 from cornerranks.errors import InvalidRanks
-from cornerranks.exact import NIL, ONE, columns_at, is_whole, row_rank
+from cornerranks.exact import NIL, ONE, columns_at, is_between, is_tuple_of, row_rank
 from cornerranks.inverses import check_square
 from cornerranks.tables import MOST, multiplied
 
@@ -21,7 +21,7 @@ def high_ranks(square):
 def _check_numbers(ranks):
     """Raise the error for the first of the ranks that is no whole number from 0 to 6."""
     for index, number in enumerate(ranks):
-        if not is_whole(number) or not 0 <= number <= MOST:
+        if not is_between(number, 0, MOST):
             raise InvalidRanks(index)
 
 
@@ -30,7 +30,7 @@ def check_ranks(lows, highs):
     if not isinstance(lows, tuple) or len(lows) >= MOST:
         raise InvalidRanks(None)
     _check_numbers(lows)
-    if not isinstance(highs, tuple) or len(highs) != len(lows):
+    if not is_tuple_of(highs, len(lows)):
         raise InvalidRanks(None)
     _check_numbers(highs)
 

@@ -11,9 +11,19 @@ def is_whole(value):
     return isinstance(value, int) and not isinstance(value, bool)
 
 
+def is_between(value, least, most):
+    """Tell whether a value is a whole number from `least` up to `most`."""
+    return is_whole(value) and least <= value <= most
+
+
+def is_tuple_of(value, many):
+    """Tell whether a value is a tuple of so many elements."""
+    return isinstance(value, tuple) and len(value) == many
+
+
 def is_fraction(value):
     """Tell whether a value is a fraction."""
-    if not isinstance(value, tuple) or len(value) != 2:
+    if not is_tuple_of(value, 2):
         return False
     top, bottom = value
     return is_whole(top) and is_whole(bottom) and bottom > 0 and gcd(top, bottom) == 1
@@ -21,9 +31,7 @@ def is_fraction(value):
 
 def is_row(value, many):
     """Tell whether a value is a row of so many."""
-    if not isinstance(value, tuple) or len(value) != many:
-        return False
-    return all(is_fraction(number) for number in value)
+    return is_tuple_of(value, many) and all(is_fraction(number) for number in value)
 
 
 def fraction(top, bottom):
@@ -42,6 +50,11 @@ def negated(number):
 def plus(number, other):
     """Return the sum of two numbers."""
     return fraction(number[0] * other[1] + other[0] * number[1], number[1] * other[1])
+
+
+def multiple(number, other):
+    """Return the product of two numbers."""
+    return fraction(number[0] * other[0], number[1] * other[1])
 
 
 def over(number, other):
@@ -173,6 +186,22 @@ def reduced(rows, width):
     wholes, places, lead = swept(whole_rows(rows)[0], width)
     kept = wholes[:len(places)]
     return tuple(tuple(fraction(number, lead) for number in row) for row in kept), places
+
+
+def null_rows(rows, width):
+    """Return free rows of `width` numbers whose products with each of the rows are 0, as many as there are.
+
+    Each belongs to a column that is a sum of multiples of those ahead of it; all others are their sums.
+    """
+    lines, places = reduced(rows, width)
+    found = []
+    for free in range(width):
+        if free not in places:
+            numbers = list(unit_row(width, free))
+            for place, line in zip(places, lines):
+                numbers[place] = negated(line[free])
+            found.append(tuple(numbers))
+    return found
 
 
 def row_rank(rows):

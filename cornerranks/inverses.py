@@ -1,7 +1,8 @@
 """Square tables: determinants, inverses, and rows that a table brings to others."""
 
 from cornerranks.errors import InvalidRow, InvalidSquare, NotRegular
-from cornerranks.exact import NIL, ONE, fraction, is_fraction, negated, reduced, row_rank, swept, unit_row, whole_rows
+from cornerranks.exact import (
+    NIL, fraction, is_fraction, is_tuple_of, null_rows, reduced, row_rank, swept, unit_row, whole_rows)
 from cornerranks.tables import is_table
 
 
@@ -18,11 +19,17 @@ def check_square(square):
 
 def check_row(row, many):
     """Raise the error for what is no row of so many."""
-    if not isinstance(row, tuple) or len(row) != many:
+    if not is_tuple_of(row, many):
         raise InvalidRow(None)
     for index, number in enumerate(row):
         if not is_fraction(number):
             raise InvalidRow(index)
+
+
+def check_regular(square):
+    """Raise the error for a singular table; one of no rows is regular."""
+    if row_rank(square) < len(square):
+        raise NotRegular()
 
 
 def is_regular(square):
@@ -69,13 +76,5 @@ def solved(square, row):
 def null_row(square):
     """Return a row other than noughts that the table brings to noughts; None."""
     check_square(square)
-    many = len(square)
-    rows, places = reduced(square, many)
-    if len(places) == many:
-        return None
-    free = min([place for place in range(many) if place not in places])
-    found = [NIL] * many
-    found[free] = ONE
-    for place, row in zip(places, rows):
-        found[place] = negated(row[free])
-    return tuple(found)
+    found = null_rows(square, len(square))
+    return found[0] if found else None

@@ -1,15 +1,8 @@
 """Shapes of the inverse of a table, told by ranks of the table: noughts, widths and half pairs."""
 
-from cornerranks.errors import NotRegular
 from cornerranks.exact import NIL, outer, over, row_rank
-from cornerranks.inverses import check_row, check_square
+from cornerranks.inverses import check_regular, check_row, check_square
 from cornerranks.tables import beside, check_lot, numbers_at, turned_over
-
-
-def _check_regular(square):
-    """Raise the error for a singular table."""
-    if row_rank(square) < len(square):
-        raise NotRegular()
 
 
 def width_below(square):
@@ -36,7 +29,7 @@ def _bounds_inverse_below(square, width):
 def inverse_width_below(square):
     """Return the width below of the inverse of a table."""
     check_square(square)
-    _check_regular(square)
+    check_regular(square)
     return min([width for width in range(len(square)) if _bounds_inverse_below(square, width)])
 
 
@@ -52,7 +45,7 @@ def has_noughts(square, rows, columns):
     many = len(square)
     check_lot(rows, many)
     check_lot(columns, many)
-    _check_regular(square)
+    check_regular(square)
     rank = row_rank(numbers_at(square, beside(columns, many), beside(rows, many)))
     return rank == many - len(rows) - len(columns)
 
@@ -66,7 +59,7 @@ def _is_half(square, row, other):
 def half_pair(square):
     """Return a half pair of a regular table; None."""
     check_square(square)
-    _check_regular(square)
+    check_regular(square)
     corner = square[-1][0]
     if corner == NIL:
         return None

@@ -1,7 +1,7 @@
 """Tables of fractions, their products, their parts and ranks."""
 
-from cornerranks.errors import InvalidLot, InvalidTable, UnlikeSizes
-from cornerranks.exact import columns_at, free_places, is_row, is_whole, reduced, row_rank, times
+from cornerranks.errors import InvalidLot, InvalidNumber, InvalidTable, UnlikeSizes
+from cornerranks.exact import columns_at, free_places, is_between, is_row, is_tuple_of, reduced, row_rank, times
 
 MOST = 6
 
@@ -28,7 +28,7 @@ def is_lot(value, many):
         return False
     least = 0
     for index in value:
-        if not is_whole(index) or not least <= index < many:
+        if not is_between(index, least, many - 1):
             return False
         least = index + 1
     return True
@@ -38,6 +38,17 @@ def check_lot(lot, many):
     """Raise the error for what is no lot of so many."""
     if not is_lot(lot, many):
         raise InvalidLot(lot)
+
+
+def check_number(number, least, most):
+    """Raise the error for what is no whole number from `least` up to `most`."""
+    if not is_between(number, least, most):
+        raise InvalidNumber(number)
+
+
+def are_small(value, many):
+    """Tell whether a value is a tuple of so many whole numbers from 0 to 6, as ranks and sizes are."""
+    return is_tuple_of(value, many) and all(is_between(number, 0, MOST) for number in value)
 
 
 def beside(lot, many):

@@ -271,3 +271,57 @@ def built_again(value):
     if isinstance(value, tuple):
         return tuple([built_again(inner) for inner in value])
     return value
+
+
+def multiples(row, rows):
+    """Numbers with which the rows are summed up to the row; None if there are none."""
+    count = len(rows)
+    lines = [[line[k] for line in rows] + [row[k]] for k in range(len(row))]
+    done = []
+    for place in range(count):
+        at = next((k for k in range(len(done), len(lines)) if lines[k][place]), None)
+        if at is None:
+            continue
+        lines[len(done)], lines[at] = lines[at], lines[len(done)]
+        top = lines[len(done)] = [number / lines[len(done)][place] for number in lines[len(done)]]
+        for k in range(len(lines)):
+            if k != len(done):
+                by = lines[k][place]
+                lines[k] = [a - by * b for a, b in zip(lines[k], top)]
+        done.append(place)
+    if any(line[-1] for line in lines[len(done):]):
+        return None
+    found = [Fraction(0)] * count
+    for line, place in zip(lines, done):
+        found[place] = line[-1]
+    return found
+
+
+def shapes_of(many, size):
+    """All rows of as many numbers as stairs of so many rows may tell."""
+    return [counts for counts in all_of(range(size + 1), repeat=many) if list(counts) == sorted(counts)]
+
+
+def drawn_stairs(stream, many, size, draw=small):
+    """Stairs with drawn numbers, of which some rows are sums of those behind them."""
+    counts = sorted(stream.below(size + 1) for _ in range(many))
+    rows = []
+    for count in reversed(counts):
+        row = [Fraction(draw(stream)) for _ in range(count)]
+        if stream.below(2):
+            by = [Fraction(draw(stream)) for _ in rows]
+            row = [sum((a * line[k] for a, line in zip(by, rows)), Fraction(0)) for k in range(count)]
+        rows = [row] + rows
+    return table_from(rows)
+
+
+def turned_stairs(stairs, size):
+    """The stairs with their columns as rows, both from behind; of len(stairs) columns."""
+    rows = []
+    for place in reversed(range(size)):
+        rows.append(tuple(row[place] for row in reversed(stairs) if len(row) > place))
+    return tuple(rows)
+
+
+def drawn_band(stream, many, width, draw=small):
+    return tuple(tuple(pair(draw(stream)) if abs(i - j) <= width else None for j in range(many)) for i in range(many))

@@ -67,6 +67,44 @@ class Files(unittest.TestCase):
                 self.assertIn(node.id, BUILTINS, (path, node.lineno))
                 self.assertIsInstance(node.ctx, ast.Load, (path, node.lineno))
 
+    def test_names_mean_one_thing(self):
+        for path, tree in self.trees.items():
+            fixed = {name.name for node in ast.walk(tree) if isinstance(node, ast.ImportFrom) for name in node.names}
+            fixed |= {node.name for node in tree.body if isinstance(node, (ast.FunctionDef, ast.ClassDef))}
+            for node in ast.walk(tree):
+                if isinstance(node, ast.arg):
+                    self.assertNotIn(node.arg, fixed, (path, node.lineno))
+                if isinstance(node, ast.Name) and isinstance(node.ctx, ast.Store):
+                    self.assertNotIn(node.id, fixed, (path, node.lineno))
+
+    def test_nothing_is_left_unused(self):
+        for path, tree in self.trees.items():
+            read = {node.id for node in ast.walk(tree) if isinstance(node, ast.Name)}
+            for node in ast.walk(tree):
+                names = [name.name for name in node.names] if isinstance(node, ast.ImportFrom) else []
+                if isinstance(node, ast.FunctionDef) and node.name.startswith("_") and node.name != "__init__":
+                    names = [node.name]
+                self.assertLessEqual(set(names), read, path)
+
+    def test_is_beside_none_alone(self):
+        for path, node in self.nodes(ast.Compare):
+            for sign, other in zip(node.ops, node.comparators):
+                if isinstance(sign, (ast.Is, ast.IsNot)):
+                    self.assertIsInstance(other, ast.Constant, (path, node.lineno))
+
+    def test_each_function_says_what_it_does(self):
+        for path, node in self.nodes(ast.FunctionDef):
+            self.assertTrue(ast.get_docstring(node) or node.name == "__init__", (path, node.name))
+
+    def test_no_two_files_import_from_each_other(self):
+        wanted = {path.stem: {node.module.split(".")[1] for node in ast.walk(tree) if isinstance(node, ast.ImportFrom)
+                              and node.module.startswith("cornerranks.")} for path, tree in self.trees.items()}
+        done = []
+        while len(done) < len(wanted):
+            ready = [name for name in wanted if name not in done and wanted[name] <= set(done)]
+            self.assertTrue(ready, wanted)
+            done += ready
+
 
 if __name__ == "__main__":
     unittest.main()

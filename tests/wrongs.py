@@ -137,6 +137,48 @@ NO_CARRYINGS = ANYTHING + tuple(value for value, _ in NO_CARRIERS) + tuple(
     ((), (), ()), (None, None, None), DEEP,
 )
 
+# Beside the size 3, or a table of three rows.
+NO_WEBS = tuple((value, None) for value in ANYTHING) + (
+    ((), None), (((0, 1),), None), (((0, 1), (0, 2), (1, 2)), None), ((None,) * 3, None), ([(0, 1), (1, 2)], None),
+    (DEEP, None), ((None, None), 0), ((0, 1), 0), (("01", "12"), 0), (([0, 1], (1, 2)), 0), (((0, 1), [1, 2]), 1),
+    (((1, 0), (1, 2)), 0), (((0, 1), (2, 1)), 1), (((0, 0), (1, 2)), 0), (((0, 1), (2, 2)), 1), (((0, 3), (1, 2)), 0),
+    (((0, 1), (1, 3)), 1), (((-1, 0), (1, 2)), 0), (((0, 1), (-1, 2)), 1), (((0, 1), (0, 1)), 1),
+    (((0, 2), (0, 1)), 1), (((1, 2), (0, 1)), 1), (((1, 2), (0, 2)), 1), (((0, True), (0, 2)), 0),
+    (((False, 1), (0, 2)), 0), (((0, 1), (True, 2)), 1), (((0, 1, 2), (1, 2)), 0), (((0, 1), (1,)), 1),
+    (((0, 1), ()), 1), (((0, 1), None), 1), (((0, HUGE), (0, 1)), 0), (((-HUGE, 1), (0, 1)), 0), ((DEEP, (0, 1)), 0),
+    (((0, 1), DEEP), 1), (((0, (1,)), (0, 2)), 0), (((0, "1"), (0, 2)), 0), (((None, 1), (0, 2)), 0), (((), ()), 0),
+)
+# Beside the size 3.
+NO_STAIRS = tuple((value, None) for value in ANYTHING) + (
+    ((), None), (((),) * 7, None), (((ONE,),) * 7, None), ((None,) * 7, None), ([(ONE,)], None), ([(), (ONE,)], None),
+    ((None,), 0), ((0, 1), 0), (("", ""), 0), (([],), 0), (((), []), 1), (((ONE,), [ONE]), 1), (((ONE,) * 4,), 0),
+    (((), (ONE,) * 4), 1), (((ONE,), ()), 1), (((ONE, ONE), (ONE,)), 1), (((), (ONE, ONE), (ONE,)), 2), (ONE, 0),
+    ((ONE, ONE), 0), (((1,),), 0), (((True,),), 0), (((), ((1, True),)), 1), (((), ((2, 2),)), 1),
+    (((ONE,), (ONE, (1, 0))), 1), (((ONE,), (ONE, (1, -1))), 1), (((ONE,), (ONE, (1, 1, 1))), 1), (DEEP, 0),
+    (((ONE,), ([1, 1],)), 1), (((ONE,), (None,)), 1), (((), (), (), (), (), ((HUGE, HUGE),)), 5), (((), None, 0), 1),
+    (((ONE, ONE, ONE), (ONE, ONE)), 1), (((), {}), 1), (((), range(0)), 1), (((ONE,), (ONE, ONE), ((0, 2),)), 2),
+)
+NO_BANDS = ANYTHING + (
+    (), ((),), ((None,),), (None,), (None, None), ((), ()), (ONE,), ((ONE, ONE),), ((ONE,), (ONE,)), DEEP, ([ONE],),
+    [(ONE,)], ((1,),), ((True,),), (((2, 2),),), (((1, True),),), (((1, 0),),), ((ONE, None), (None, None)),
+    ((None, None), (None, ONE)), ((ONE, None), (ONE, ONE)), ((ONE, ONE), (None, ONE)), ((ONE, ONE), [ONE, ONE]),
+    ((ONE, None), (None, (2, 2))), ((None, ONE), (ONE, None)), ((ONE, 0), (0, ONE)), ((ONE, False), (False, ONE)),
+    ((ONE, ()), ((), ONE)), ((ONE, ONE, None), (ONE, ONE, ONE), (ONE, ONE, ONE)), ((ONE, None), (None, ONE, None)),
+    ((ONE, ONE, ONE), (ONE, ONE, ONE), (None, ONE, ONE)), ((ONE, None, ONE), (None, ONE, None), (ONE, None, ONE)),
+    ((ONE, None, None), (None, ONE, ONE), (None, ONE, ONE)), ((ONE, ONE, None), (ONE, None, ONE), (None, ONE, ONE)),
+    ((ONE, ONE, None), (ONE, ONE, None), (None, None, ONE)), ((ONE,) * 7,) * 7, ((None,) * 6,) * 6, ((ONE,) * 6,) * 5,
+    ((ONE, ONE, None), (ONE, ONE, ONE)), ((ONE, ONE, None), (ONE, ONE, ONE), (None, ONE, (HUGE, HUGE))), CHAIN[:2],
+    tuple(tuple(ONE if i == j else None for j in range(7)) for i in range(7)), ((ONE, None), None),
+)
+
+
+def no_numbers(least, most):
+    """What is no whole number from the one to the other."""
+    return tuple(value for value in ANYTHING if not (type(value) is int and least <= value <= most)) + (
+        least - 1, most + 1, least - 2, 10 * most + 10, (), (least,), ((least,),), str(most), b"1", [most], ONE, TWO, DEEP,
+        HUGE * HUGE, -HUGE * HUGE, {most: most}, {most}, True, False, None,
+    )
+
 
 def given(name, values):
     return [(name, "given", value, value) for value in values]
@@ -152,6 +194,15 @@ LOWS, HIGHS = index("InvalidRanks", NO_LOWS), index("InvalidRanks", NO_HIGHS)
 COLUMN, CUT = index("InvalidRow", NO_COLUMNS), given("InvalidNumber", NO_CUTS)
 CARRIER, CARRYING = index("InvalidCarrier", NO_CARRIERS), given("InvalidCarrying", NO_CARRYINGS)
 SIZES, BASES = index("InvalidSizes", NO_SIZES), index("InvalidBases", NO_BASES)
+
+WEB, STAIRS = index("InvalidWeb", NO_WEBS), index("InvalidStairs", NO_STAIRS)
+BAND, SIZE = given("InvalidBand", NO_BANDS), given("InvalidNumber", no_numbers(1, 6))
+PLACE, RANK = given("InvalidNumber", no_numbers(0, 2)), given("InvalidNumber", no_numbers(0, 6))
+# For a parameter for which no error is told.
+NOTHING = ()
+PATH, STAR = ((0, 1), (1, 2)), ((0, 1), (0, 2))
+STEPS = ((ONE,), (ONE, TWO))
+TOLD = ((TWO, LESS, None), (LESS, TWO, LESS), (None, LESS, TWO))
 
 
 def lot_of(many):
@@ -210,6 +261,41 @@ FUNCTIONS = (
     ("shapes", "half_pair", (("square", HILL, SQUARE),)),
     ("shapes", "is_half_pair", (
         ("square", HILL, SQUARE), ("row", (ONE, NIL, HALF), ROW), ("other", (ONE, ONE, TWO), ROW))),
+    ("webs", "is_web", (("size", 3, SIZE), ("value", PATH, NOTHING))),
+    ("webs", "way", (("size", 3, SIZE), ("web", STAR, WEB), ("first", 1, PLACE), ("second", 2, PLACE))),
+    ("webs", "has_web_inverse", (("square", HILL, SQUARE), ("web", PATH, WEB))),
+    ("webs", "web_break", (("square", HILL, SQUARE), ("web", STAR, WEB))),
+    ("fillings", "is_stairs", (("size", 3, SIZE), ("value", STEPS, NOTHING))),
+    ("fillings", "is_filling", (("size", 3, SIZE), ("stairs", STEPS, STAIRS), ("value", WIDE, NOTHING))),
+    ("fillings", "least_rank", (("size", 3, SIZE), ("stairs", STEPS, STAIRS))),
+    ("fillings", "greatest_rank", (("size", 3, SIZE), ("stairs", STEPS, STAIRS))),
+    ("fillings", "least_filling", (("size", 3, SIZE), ("stairs", STEPS, STAIRS))),
+    ("fillings", "greatest_filling", (("size", 3, SIZE), ("stairs", STEPS, STAIRS))),
+    ("fillings", "filling_of_rank", (("size", 3, SIZE), ("stairs", STEPS, STAIRS), ("rank", 2, RANK))),
+    ("fillings", "has_one_least", (("size", 3, SIZE), ("stairs", STEPS, STAIRS))),
+    ("fillings", "band_filling", (("band", TOLD, BAND),)),
+    ("fillings", "band_determinant", (("band", TOLD, BAND),)),
+    ("checker", "accepts", (("claim", ("web", HILL, PATH), NOTHING), ("paper", (), NOTHING))),
+    ("certificates", "certify_rank", (
+        ("table", WIDE, TABLE), ("rows", (0, 1), lot_of(2)), ("columns", (0, 2), lot_of(3)), ("bound", 1, RANK))),
+    ("certificates", "certify_regular", (("square", CHAIN, SQUARE),)),
+    ("certificates", "certify_ranks", (("lows", (0, 1, 0), LOWS), ("highs", (1, 2, 1), HIGHS))),
+    ("certificates", "certify_sizes", (("square", CHAIN, SQUARE), ("sizes", (1, 0), SIZES))),
+    ("certificates", "certify_bases", (("carrier", DOWN, CARRIER), ("other", DOWN, CARRIER))),
+    ("certificates", "certify_least", (("carrier", DOWN, CARRIER),)),
+    ("certificates", "certify_noughts", (
+        ("square", HILL, SQUARE), ("rows", (2,), lot_of(3)), ("columns", (0,), lot_of(3)))),
+    ("certificates", "certify_half_pair", (("square", HILL, SQUARE),)),
+    ("certificates", "certify_web", (("square", HILL, SQUARE), ("web", STAR, WEB))),
+    ("certificates", "certify_filled", (("size", 3, SIZE), ("stairs", STEPS, STAIRS), ("rank", 0, RANK))),
 )
 # The functions that tell of any value whether it is something.
-ASKING = (("tables", "is_table"), ("carriers", "is_carrier"), ("carryings", "is_carrying"))
+ASKING = (("tables", "is_table"), ("carriers", "is_carrier"), ("carryings", "is_carrying"), ("fillings", "is_band"))
+# The claims that each certificate may give.
+TELLING = {
+    "certify_rank": ("rank up to", "rank from"), "certify_regular": ("regular", "singular"),
+    "certify_ranks": ("some table", "no table"), "certify_sizes": ("carried", "not carried"),
+    "certify_bases": ("one in two bases", "unlike numbers"), "certify_least": ("least", "wide"),
+    "certify_noughts": ("noughts", "no noughts"), "certify_half_pair": ("half pair", "no half pair"),
+    "certify_web": ("web", "web broken"), "certify_filled": ("filled", "fillings from", "fillings up to"),
+}
